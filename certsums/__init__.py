@@ -1,0 +1,1 @@
+"""Certsums: exact summation with certificates."""

@@ -1,0 +1,181 @@
+"""Whole numbers, and polynomials as lists of whole coefficients, the power 0 first."""
+
+from itertools import zip_longest
+from math import gcd
+
+# Below this length, the plain product is faster than packing.
+SHORT = 8
+
+
+def power_of(base, exponent):
+    """The whole number base to the power exponent >= 0."""
+    found = 1
+    while exponent > 0:
+        if exponent & 1:
+            found = found * base
+        exponent = exponent >> 1
+        if exponent > 0:
+            base = base * base
+    return found
+
+
+def inverse_modulo(number, modulus):
+    """The inverse of a number that is coprime to the modulus."""
+    first, second = number % modulus, modulus
+    factor, following = 1, 0
+    while second != 0:
+        share = first // second
+        first, second = second, first - share * second
+        factor, following = following, factor - share * following
+    return factor % modulus
+
+
+def common_factor(numbers):
+    """The greatest common divisor of a list of whole numbers, 0 if all are 0."""
+    found = 0
+    for number in numbers:
+        found = gcd(found, number)
+        if found == 1:
+            return 1
+    return found
+
+
+def trimmed(coefs):
+    """A list of the coefficients without the zeros at the end."""
+    length = len(coefs)
+    while length > 0 and coefs[length - 1] == 0:
+        length = length - 1
+    return list(coefs[:length])
+
+
+def primitive(coefs):
+    """The coefficients, not all zero, divided by their greatest common divisor."""
+    factor = common_factor(coefs)
+    return [c // factor for c in coefs]
+
+
+def height(coefs):
+    """The greatest absolute value of a coefficient."""
+    return max([abs(c) for c in coefs], default=0)
+
+
+def evaluated(coefs, at):
+    """The value at a whole number."""
+    total = 0
+    for c in reversed(coefs):
+        total = total * at + c
+    return total
+
+
+def derivative(coefs):
+    """The coefficients of the derivative."""
+    return [i * c for i, c in enumerate(coefs) if i > 0]
+
+
+def shifted_coefs(coefs, step):
+    """The coefficients of p(x + step)."""
+    found = list(coefs)
+    last = len(found) - 1
+    for i in range(last):
+        for j in range(last - 1, i - 1, -1):
+            found[j] = found[j] + step * found[j + 1]
+    return found
+
+
+def added(first, second):
+    """The coefficients of a sum."""
+    return [x + y for x, y in zip_longest(first, second, fillvalue=0)]
+
+
+def multiplied(first, second):
+    """The coefficients of a product."""
+    if min(len(first), len(second)) < SHORT:
+        return _plain_product(first, second)
+    # One product of two large numbers is faster than very many of small ones.
+    largest = height(first) * height(second) * min(len(first), len(second))
+    bits = largest.bit_length() + 2
+    number = _packed(first, bits) * _packed(second, bits)
+    return _unpacked(number, bits, len(first) + len(second) - 1)
+
+
+def _plain_product(first, second):
+    if len(first) == 0 or len(second) == 0:
+        return []
+    found = [0] * (len(first) + len(second) - 1)
+    for i, x in enumerate(first):
+        if x != 0:
+            for j, y in enumerate(second):
+                found[i + j] = found[i + j] + x * y
+    return found
+
+
+def _packed(coefs, bits):
+    """The value at 2 to the power bits, of a list that is not empty."""
+    parts = list(coefs)
+    while len(parts) > 1:
+        if len(parts) & 1:
+            parts.append(0)
+        parts = [parts[i] + (parts[i + 1] << bits) for i in range(0, len(parts), 2)]
+        bits = 2 * bits
+    return parts[0]
+
+
+def _unpacked(number, bits, count):
+    """The count coefficients, of absolute value below 2 ** (bits - 1), that _packed made the number from."""
+    parts = [number]
+    length = 1
+    while length < count:
+        length = 2 * length
+    while length > 1:
+        length = length // 2
+        parts = [half for part in parts for half in _halves(part, bits * length)]
+    return parts[:count]
+
+
+def _halves(number, bits):
+    """The pair (low, high) with number = low + high 2 ** bits, where low may be negative."""
+    low = number & ((1 << bits) - 1)
+    if low >> (bits - 1):
+        low = low - (1 << bits)
+    return low, (number - low) >> bits
+
+
+def powered(coefs, exponent):
+    """The coefficients of the power, of coefficients without zeros at the end."""
+    if exponent == 0:
+        return [1]
+    if len(coefs) == 0:
+        return []
+    zeros = 0
+    while coefs[zeros] == 0:
+        zeros = zeros + 1
+    first = coefs[zeros]
+    terms = [(i - zeros, c) for i, c in enumerate(coefs) if i > zeros and c != 0]
+    found = [power_of(first, exponent)]
+    # The power q of p satisfies p q' = exponent p' q, which gives each coefficient from those before it.
+    for k in range(1, exponent * (len(coefs) - 1 - zeros) + 1):
+        total = sum([((exponent + 1) * i - k) * c * found[k - i] for i, c in terms if i <= k])
+        found.append(total // (k * first))
+    return [0] * (zeros * exponent) + found
+
+
+def coprime_modulo(first, second, prime):
+    """Whether it is certain, from their remainders, that two nonzero polynomials have no common divisor."""
+    if first[-1] % prime == 0 and second[-1] % prime == 0:
+        return False
+    high = trimmed([c % prime for c in first])
+    low = trimmed([c % prime for c in second])
+    while len(low) > 0:
+        high, low = low, _remainder_modulo(high, low, prime)
+    return len(high) == 1
+
+
+def _remainder_modulo(first, second, prime):
+    inverse = inverse_modulo(second[-1], prime)
+    rest = list(first)
+    for at in range(len(first) - len(second), -1, -1):
+        share = rest[at + len(second) - 1] * inverse % prime
+        if share != 0:
+            for i, c in enumerate(second):
+                rest[at + i] = (rest[at + i] - share * c) % prime
+    return trimmed(rest)

@@ -1,0 +1,71 @@
+"""The interface: each name stands in its own file, each method in its own class, with the listed arguments."""
+
+import importlib
+import inspect
+import unittest
+
+FUNCTIONS = {
+    "fraction": {"sum_of": "(fractions)", "product_of": "(fractions)"},
+    "counting": {"factorial": "(n)", "binomial": "(n, k)", "rising": "(x, count)"},
+    "poly": {"from_fractions": "(fractions)"},
+    "division": {"divide": "(p, q)", "exact": "(p, q)", "monic": "(p)", "common_divisor": "(p, q)",
+                 "common_divisor_of": "(polys)"},
+    "margin": {"settled_from": "(p, *, start)", "roots_between": "(p, *, low, high)", "roots_from": "(p, *, start)",
+               "free_from": "(p, *, start)"},
+    "poly2": {"product_of2": "(factors)"},
+    "matrix": {"dot": "(first, second)", "apply": "(rows, vector)", "combine": "(vector, rows, width)",
+               "multiply": "(left, right, width)", "identity": "(size)"},
+}
+RING = {"__add__": "(self, other)", "__sub__": "(self, other)", "__mul__": "(self, other)", "__neg__": "(self)",
+        "__eq__": "(self, other)"}
+CLASSES = {
+    ("fraction", "Fraction"): {
+        "__init__": "(self, num, den=1)", "over": "(self, other)", "power": "(self, exponent)", "sign": "(self)",
+        "floor": "(self)", "is_zero": property, "is_whole": property},
+    ("poly", "Poly"): {
+        "__init__": "(self, coefs, den=1)", "coefficient": "(self, index)", "at": "(self, k)", "value": "(self, x)",
+        "scaled": "(self, factor)", "shifted": "(self, step)", "power": "(self, exponent)", "degree": property,
+        "is_zero": property, "lead": property, "constant": staticmethod, "line": staticmethod},
+    ("poly2", "Poly2"): {
+        "__init__": "(self, rows)", "row": "(self, index)", "value_at": "(self, n, k)", "at_n": "(self, n)",
+        "at_k": "(self, k)", "moved": "(self, by_n, by_k)", "power": "(self, exponent)", "degree_n": property,
+        "degree_k": property, "is_zero": property, "in_n": staticmethod, "in_k": staticmethod, "line": staticmethod,
+        "of_sum": staticmethod},
+    ("quotient", "Quotient"): {
+        "__init__": "(self, num, den)", "over": "(self, other)", "shifted": "(self, step)", "at": "(self, k)",
+        "is_zero": property, "whole": staticmethod},
+}
+STATIC = {("poly", "Poly", "constant"): "(x)", ("poly", "Poly", "line"): "(slope, offset)",
+          ("poly2", "Poly2", "in_n"): "(p)", ("poly2", "Poly2", "in_k"): "(p)",
+          ("poly2", "Poly2", "line"): "(n_factor, k_factor, offset)", ("poly2", "Poly2", "of_sum"): "(p)",
+          ("quotient", "Quotient", "whole"): "(p)"}
+
+
+class InterfaceTest(unittest.TestCase):
+    def test_functions(self):
+        for file, functions in FUNCTIONS.items():
+            module = importlib.import_module(f"certsums.{file}")
+            for name, signature in functions.items():
+                function = vars(module)[name]
+                self.assertEqual(function.__module__, f"certsums.{file}")
+                self.assertEqual(str(inspect.signature(function)), signature)
+
+    def test_classes(self):
+        for (file, name), members in CLASSES.items():
+            kind = vars(importlib.import_module(f"certsums.{file}"))[name]
+            self.assertEqual(kind.__module__, f"certsums.{file}")
+            for member, form in {**RING, **members}.items():
+                found = vars(kind)[member]
+                if isinstance(form, str):
+                    self.assertEqual(str(inspect.signature(found)), form, member)
+                else:
+                    self.assertIs(type(found), form, member)
+
+    def test_static_methods(self):
+        for (file, name, member), signature in STATIC.items():
+            kind = vars(importlib.import_module(f"certsums.{file}"))[name]
+            self.assertEqual(str(inspect.signature(getattr(kind, member))), signature)
+
+
+if __name__ == "__main__":
+    unittest.main()

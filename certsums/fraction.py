@@ -3,7 +3,7 @@
 from math import gcd
 
 from certsums.errors import DivisionByZero
-from certsums.intlists import power_of
+from certsums.intlists import power_of, total_of
 
 
 class Fraction:
@@ -86,13 +86,7 @@ def _in_lowest_terms(num, den):
 
 def sum_of(fractions):
     """The sum of a list of fractions."""
-    if len(fractions) == 0:
-        return Fraction(0)
-    if len(fractions) == 1:
-        return fractions[0]
-    # Two halves keep the numbers of most of the sums small.
-    middle = len(fractions) // 2
-    return sum_of(fractions[:middle]) + sum_of(fractions[middle:])
+    return total_of(fractions, Fraction(0))
 
 
 def product_of(fractions):

@@ -19,6 +19,17 @@ def power_of(base, exponent):
     return found
 
 
+def total_of(parts, zero):
+    """The sum of a list of values of any kind, zero if there are none."""
+    if len(parts) == 0:
+        return zero
+    if len(parts) == 1:
+        return parts[0]
+    # Two halves keep the numbers of most of the sums small.
+    middle = len(parts) // 2
+    return total_of(parts[:middle], zero) + total_of(parts[middle:], zero)
+
+
 def inverse_modulo(number, modulus):
     """The inverse of a number that is coprime to the modulus."""
     first, second = number % modulus, modulus

@@ -4,8 +4,11 @@ from math import lcm
 
 from certsums.counting import binomial
 from certsums.fraction import Fraction
-from certsums.intlists import multiplied, power_of, powered, shifted_coefs, trimmed
+from certsums.intlists import multiplied, power_of, powered, shifted_coefs, total_of, trimmed
 from certsums.poly import Poly, from_fractions
+
+# If rows grow by more bits over one denominator, a product is faster row by row.
+MUCH = 256
 
 
 class Poly2:
@@ -28,9 +31,11 @@ class Poly2:
         return self + -other
 
     def __mul__(self, other):
-        width = max(0, self.degree_n) + max(0, other.degree_n) + 1
         first_den = _common_den(self.rows)
         second_den = _common_den(other.rows)
+        if max(_growth(self.rows, first_den), _growth(other.rows, second_den)) > MUCH:
+            return Poly2(_product_by_rows(self.rows, other.rows))
+        width = max(0, self.degree_n) + max(0, other.degree_n) + 1
         product = multiplied(_flat(self.rows, first_den, width), _flat(other.rows, second_den, width))
         return Poly2(_cut(product, first_den * second_den, width))
 
@@ -83,8 +88,10 @@ class Poly2:
 
     def power(self, exponent):
         """This polynomial to a power, 1 for the exponent 0."""
-        width = max(0, self.degree_n) * exponent + 1
         den = _common_den(self.rows)
+        if _growth(self.rows, den) > MUCH:
+            return product_of2([self] * exponent)
+        width = max(0, self.degree_n) * exponent + 1
         return Poly2(_cut(powered(trimmed(_flat(self.rows, den, width)), exponent), power_of(den, exponent), width))
 
     @staticmethod
@@ -114,6 +121,21 @@ def _common_den(rows):
     for row in rows:
         den = lcm(den, row.den)
     return den
+
+
+def _growth(rows, den):
+    """How many bits the coefficients of a row may grow by over the common denominator den."""
+    return max([(den // row.den).bit_length() for row in rows], default=0)
+
+
+def _product_by_rows(first, second):
+    return [_row_of_product(first, second, i) for i in range(len(first) + len(second) - 1)]
+
+
+def _row_of_product(first, second, index):
+    low = max(0, index - len(second) + 1)
+    high = min(index + 1, len(first))
+    return total_of([first[j] * second[index - j] for j in range(low, high)], Poly([]))
 
 
 def _padded(row, den, width):

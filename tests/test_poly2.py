@@ -105,6 +105,16 @@ class OperatorsTest(unittest.TestCase):
         p, q = random_poly2(source, 40, 6, HUGE, 1), random_poly2(source, 6, 40, HUGE, 1)
         self.check(p, q)
 
+    def test_rows_with_very_different_denominators(self):
+        source = random.Random(7)
+        for degree_n, degree_k in [(0, 1), (2, 3), (6, 5)]:
+            p, q = [random_poly2(source, degree_n, degree_k, HUGE, HUGE) for _ in range(2)]
+            self.check(p, q)
+            self.check(p, Poly2.line(1, -2, 3))
+            self.check(Poly2.line(1, -2, 3), p)
+            self.assertEqual([p * ZERO, ZERO * p, p.power(0), p.power(1)], [ZERO, ZERO, ONE, p])
+            self.assertEqual(p.power(3), p * (p * p))
+
     def test_nothing_is_changed(self):
         p, q = Poly2([Poly([1, 2]), Poly([3], 2)]), Poly2([Poly([]), Poly([0, 1])])
         kept = [parts(p), parts(q)]

@@ -22,7 +22,7 @@ def divide(p, q):
 def _divide_coefs(first, second):
     """The triple (quotient, rest, factor) with factor first = quotient second + rest."""
     count = len(first) - len(second) + 1
-    quotient = [0] * count
+    quotient = [0 for _ in range(count)]
     rest = list(first)
     factor = 1
     lead = second[-1]

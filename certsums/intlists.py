@@ -112,7 +112,7 @@ def multiplied(first, second):
 def _plain_product(first, second):
     if len(first) == 0 or len(second) == 0:
         return []
-    found = [0] * (len(first) + len(second) - 1)
+    found = [0 for _ in range(len(first) + len(second) - 1)]
     for i, x in enumerate(first):
         if x != 0:
             for j, y in enumerate(second):

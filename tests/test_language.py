@@ -178,6 +178,36 @@ class FormsTest(unittest.TestCase):
                 for name, node in bound_names(ast.Module(function.body + [function.args], [])):
                     self.assertNotIn(name, taken, f"L15 {path.name}:{node.lineno}")
 
+    def test_lists_made_by_the_sign_are_not_changed(self):
+        for path, tree in parsed():
+            for function in functions(tree):
+                made = {target.id for node in ast.walk(function) if isinstance(node, ast.Assign)
+                        for target in node.targets if isinstance(target, ast.Name) and self.repeats_a_list(node.value)}
+                for node in ast.walk(function):
+                    held = None
+                    if isinstance(node, ast.Subscript) and isinstance(node.ctx, (ast.Store, ast.Del)):
+                        held = node.value
+                    elif isinstance(node, ast.Call) and isinstance(node.func, ast.Attribute):
+                        held = node.func.value
+                    if isinstance(held, ast.Name):
+                        self.assertNotIn(held.id, made, f"L5, L28 {path.name}:{node.lineno}")
+
+    def repeats_a_list(self, value):
+        products = [node for node in ast.walk(value) if isinstance(node, ast.BinOp) and isinstance(node.op, ast.Mult)]
+        return any(isinstance(side, (ast.List, ast.ListComp)) for node in products for side in (node.left, node.right))
+
+    def test_iterated_at_once(self):
+        views = ("zip", "enumerate", "reversed", "range")
+        for path, tree in parsed():
+            for node in ast.walk(tree):
+                if isinstance(node, ast.Call):
+                    for later in node.args[1:]:
+                        view = isinstance(later, ast.Call) and isinstance(later.func, ast.Name) and later.func.id in views
+                        self.assertFalse(view, f"L23 {path.name}:{node.lineno}")
+                if isinstance(node, (ast.Assign, ast.Return)) and isinstance(node.value, ast.Call):
+                    view = isinstance(node.value.func, ast.Name) and node.value.func.id in views
+                    self.assertFalse(view, f"L23 {path.name}:{node.lineno}")
+
     def test_expressions(self):
         whole = ("sum", "min", "max", "any", "all", "sorted")
         for path, tree in parsed():

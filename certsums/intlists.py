@@ -1,10 +1,13 @@
 """Whole numbers, and polynomials as lists of whole coefficients, the power 0 first."""
 
 from itertools import zip_longest
-from math import gcd
+from math import gcd, isqrt
 
 # Below this length, the plain product is faster than packing.
 SHORT = 8
+
+# So many bits of quotients are found at once in a search for a denominator.
+CHUNK = 500
 
 
 def power_of(base, exponent):
@@ -41,6 +44,98 @@ def inverse_modulo(number, modulus):
     return factor % modulus
 
 
+def inverse_of_unit(number, prime, modulus):
+    """The inverse modulo a power of the prime number, of a number that it does not divide."""
+    inverse = inverse_modulo(number, prime)
+    known = prime
+    while known < modulus:
+        known = known * known
+        inverse = inverse * (2 - number * inverse) % known
+    return inverse % modulus
+
+
+def next_prime(number):
+    """The least prime number that is greater than number."""
+    candidate = number + 1
+    while not _is_prime(candidate):
+        candidate = candidate + 1
+    return candidate
+
+
+def _is_prime(number):
+    if number < 2:
+        return False
+    divisor = 2
+    while divisor * divisor <= number:
+        if number % divisor == 0:
+            return False
+        divisor = divisor + 1
+    return True
+
+
+def inner(first, second):
+    """The sum of the products of the entries of two lists of equal length."""
+    return sum([x * y for x, y in zip(first, second)])
+
+
+def common_fractions(residues, modulus, den):
+    """The pair (numerators, den) of fractions that have these remainders, or None if they seem to be larger.
+
+    The denominator is a multiple of the given one. A pair is a guess, which is right if it passes a check, and which
+    is right as soon as the modulus is large enough.
+    """
+    # Only if a denominator were greater than the fourth root, could a wrong numerator always be within this limit.
+    limit = modulus >> (modulus.bit_length() // 4)
+    bound = isqrt(modulus)
+    parts = []
+    for residue in residues:
+        number = _nearest_zero(residue * den, modulus)
+        if abs(number) > limit:
+            if den > bound:
+                return None
+            den = den * _denominator(number, modulus, bound)
+            number = _nearest_zero(residue * den, modulus)
+        parts.append((number, den))
+    return [number * (den // known) for number, known in parts], den
+
+
+def _nearest_zero(number, modulus):
+    rest = number % modulus
+    return rest - modulus if 2 * rest > modulus else rest
+
+
+def _denominator(residue, modulus, bound):
+    """The denominator of the fraction with this remainder whose numerator is at most the bound."""
+    high, low = modulus, residue % modulus
+    before, factor = 0, 1
+    while low > bound:
+        first, second = _first_steps(high, low, bound)
+        high, low = abs(first[0] * high - first[1] * low), abs(second[0] * high - second[1] * low)
+        before, factor = first[0] * before + first[1] * factor, second[0] * before + second[1] * factor
+    return factor
+
+
+def _first_steps(high, low, bound):
+    """Two pairs of factors, signs left out, that lead some divisions with remainder on, but none below the bound."""
+    places = high.bit_length() - 2 * CHUNK
+    if places <= 0 or low.bit_length() - bound.bit_length() <= CHUNK:
+        return (0, 1), (1, high // low)
+    # The leading digits tell the quotients as long as the factors are small against what is left.
+    top, rest = high >> places, low >> places
+    first, second = (1, 0), (0, 1)
+    while rest > 0:
+        share = top // rest
+        third = (first[0] + share * second[0], first[1] + share * second[1])
+        left = top - share * rest
+        if left < third[1] or rest - left < third[1] + second[1]:
+            break
+        top, rest = rest, left
+        first, second = second, third
+    if first[1] == 0:
+        return (0, 1), (1, high // low)
+    return first, second
+
+
 def common_factor(numbers):
     """The greatest common divisor of a list of whole numbers, 0 if all are 0."""
     found = 0
@@ -75,6 +170,14 @@ def evaluated(coefs, at):
     total = 0
     for c in reversed(coefs):
         total = total * at + c
+    return total
+
+
+def value_modulo(coefs, at, modulus):
+    """The remainder of the value at a whole number."""
+    total = 0
+    for c in reversed(coefs):
+        total = (total * at + c) % modulus
     return total
 
 
@@ -174,19 +277,58 @@ def coprime_modulo(first, second, prime):
     """Whether it is certain, from their remainders, that two nonzero polynomials have no common divisor."""
     if first[-1] % prime == 0 and second[-1] % prime == 0:
         return False
-    high = trimmed([c % prime for c in first])
-    low = trimmed([c % prime for c in second])
+    return len(divisor_modulo(first, second, prime)) == 1
+
+
+def divisor_modulo(first, second, prime):
+    """A greatest common divisor modulo a prime number."""
+    high = remainders(first, prime)
+    low = remainders(second, prime)
     while len(low) > 0:
-        high, low = low, _remainder_modulo(high, low, prime)
-    return len(high) == 1
+        _, rest = divided_modulo(high, low, prime)
+        high, low = low, rest
+    return high
 
 
-def _remainder_modulo(first, second, prime):
-    inverse = inverse_modulo(second[-1], prime)
+def remainders(coefs, modulus):
+    """The coefficients modulo a number, without the zeros at the end."""
+    return trimmed([c % modulus for c in coefs])
+
+
+def monic_modulo(coefs, modulus):
+    """The coefficients divided by the last one, which has an inverse."""
+    factor = inverse_modulo(coefs[-1], modulus)
+    return [c * factor % modulus for c in coefs]
+
+
+def divided_modulo(first, second, modulus):
+    """The pair (quotient, rest), where the last coefficient of the divisor has an inverse."""
+    inverse = inverse_modulo(second[-1], modulus)
     rest = list(first)
+    quotient = [0 for _ in range(len(first) - len(second) + 1)]
     for at in range(len(first) - len(second), -1, -1):
-        share = rest[at + len(second) - 1] * inverse % prime
+        share = rest[at + len(second) - 1] * inverse % modulus
+        quotient[at] = share
         if share != 0:
             for i, c in enumerate(second):
-                rest[at + i] = (rest[at + i] - share * c) % prime
-    return trimmed(rest)
+                rest[at + i] = (rest[at + i] - share * c) % modulus
+    return quotient, trimmed(rest)
+
+
+def product_modulo(first, second, divisor, modulus):
+    """The rest of a product of two polynomials."""
+    _, rest = divided_modulo(remainders(multiplied(first, second), modulus), divisor, modulus)
+    return rest
+
+
+def power_modulo(coefs, exponent, divisor, modulus):
+    """The rest of a power, of a polynomial with an exponent >= 0."""
+    _, base = divided_modulo(coefs, divisor, modulus)
+    found = [1]
+    while exponent > 0:
+        if exponent & 1:
+            found = product_modulo(found, base, divisor, modulus)
+        exponent = exponent >> 1
+        if exponent > 0:
+            base = product_modulo(base, base, divisor, modulus)
+    return found

@@ -1,10 +1,8 @@
 """Whole roots of polynomials, and the numbers from which the signs are settled."""
 
-from math import isqrt
-
 from certsums.division import common_divisor, exact
 from certsums.errors import ZeroPolynomial
-from certsums.intlists import derivative, evaluated, height, inverse_modulo, shifted_coefs
+from certsums.intlists import derivative, evaluated, height, inverse_modulo, next_prime, shifted_coefs, value_modulo
 from certsums.poly import Poly
 
 
@@ -74,10 +72,15 @@ def _whole_roots(p):
     """All whole roots, each one as the lift of a root modulo a prime number."""
     if p.degree < 1:
         return []
-    simple = exact(p, common_divisor(p, Poly(derivative(p.coefs))))
+    simple = without_multiple_roots(p)
     prime, residues = _prime_with_simple_roots(simple.coefs)
     lifts = [_lifted(simple.coefs, residue, prime) for residue in residues]
     return sorted([root for root in lifts if evaluated(simple.coefs, root) == 0])
+
+
+def without_multiple_roots(p):
+    """The polynomial p, not constant, divided by a polynomial so that it keeps each complex root once."""
+    return exact(p, common_divisor(p, Poly(derivative(p.coefs))))
 
 
 def _prime_with_simple_roots(coefs):
@@ -85,24 +88,12 @@ def _prime_with_simple_roots(coefs):
     slopes = derivative(coefs)
     degree = len(coefs) - 1
     # Modulo a prime of about this size, the roots are likely to stay distinct.
-    prime = _next_prime(degree * min(degree, 40))
+    prime = next_prime(degree * min(degree, 40))
     while True:
         residues = _roots_modulo(coefs, prime)
         if min([evaluated(slopes, residue) % prime for residue in residues], default=1) > 0:
             return prime, residues
-        prime = _next_prime(prime)
-
-
-def _next_prime(number):
-    """The least prime number that is greater than number."""
-    candidate = number + 1
-    while not _is_prime(candidate):
-        candidate = candidate + 1
-    return candidate
-
-
-def _is_prime(number):
-    return number > 1 and all([number % d != 0 for d in range(2, isqrt(number) + 1)])
+        prime = next_prime(prime)
 
 
 def _roots_modulo(coefs, prime):
@@ -119,13 +110,6 @@ def _lifted(coefs, residue, prime):
     inverse = inverse_modulo(evaluated(slopes, root), prime)
     while modulus <= 2 * bound:
         modulus = modulus * modulus
-        root = (root - _value_modulo(coefs, root, modulus) * inverse) % modulus
-        inverse = inverse * (2 - _value_modulo(slopes, root, modulus) * inverse) % modulus
+        root = (root - value_modulo(coefs, root, modulus) * inverse) % modulus
+        inverse = inverse * (2 - value_modulo(slopes, root, modulus) * inverse) % modulus
     return root if 2 * root < modulus else root - modulus
-
-
-def _value_modulo(coefs, at, modulus):
-    total = 0
-    for c in reversed(coefs):
-        total = (total * at + c) % modulus
-    return total

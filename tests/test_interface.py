@@ -15,25 +15,47 @@ FUNCTIONS = {
     "poly2": {"product_of2": "(factors)"},
     "matrix": {"dot": "(first, second)", "apply": "(rows, vector)", "combine": "(vector, rows, width)",
                "multiply": "(left, right, width)", "identity": "(size)"},
+    "systems": {"solve": "(rows, right, width)", "kernel": "(rows, width)"},
+    "polysystems": {"poly_kernel": "(rows, width)"},
+    "termbuild": {"power_term": "(base, start)", "factorial_term": "(offset, start)", "quotient_term": "(y, start)",
+                  "difference_term": "(term)"},
+    "distance": {"distances": "(a, b)", "coprime_certificate": "(a, b)"},
+    "normalform": {"normal_form": "(ratio)"},
+    "degree": {"degree_bound": "(a, b, c)"},
+    "running": {"running_sum": "(ratio)", "closed_value": "(term, y, last)"},
+    "telescoping": {"column": "(binomial_sum, order, j)", "forward": "(binomial_sum, order)",
+                    "backward": "(binomial_sum)", "certificate_degree": "(binomial_sum, order)",
+                    "equations": "(binomial_sum, order)"},
 }
 RING = {"__add__": "(self, other)", "__sub__": "(self, other)", "__mul__": "(self, other)", "__neg__": "(self)",
         "__eq__": "(self, other)"}
 CLASSES = {
     ("fraction", "Fraction"): {
+        **RING,
         "__init__": "(self, num, den=1)", "over": "(self, other)", "power": "(self, exponent)", "sign": "(self)",
         "floor": "(self)", "is_zero": property, "is_whole": property},
     ("poly", "Poly"): {
+        **RING,
         "__init__": "(self, coefs, den=1)", "coefficient": "(self, index)", "at": "(self, k)", "value": "(self, x)",
         "scaled": "(self, factor)", "shifted": "(self, step)", "power": "(self, exponent)", "degree": property,
         "is_zero": property, "lead": property, "constant": staticmethod, "line": staticmethod},
     ("poly2", "Poly2"): {
+        **RING,
         "__init__": "(self, rows)", "row": "(self, index)", "value_at": "(self, n, k)", "at_n": "(self, n)",
         "at_k": "(self, k)", "moved": "(self, by_n, by_k)", "power": "(self, exponent)", "degree_n": property,
         "degree_k": property, "is_zero": property, "in_n": staticmethod, "in_k": staticmethod, "line": staticmethod,
         "of_sum": staticmethod},
     ("quotient", "Quotient"): {
+        **RING,
         "__init__": "(self, num, den)", "over": "(self, other)", "shifted": "(self, step)", "at": "(self, k)",
         "is_zero": property, "whole": staticmethod},
+    ("term", "Term"): {
+        "__init__": "(self, start, first, ratio)", "__eq__": "(self, other)", "value": "(self, k)",
+        "times": "(self, other)", "over": "(self, other)", "scaled": "(self, factor)", "later": "(self, start)",
+        "partial_sum": "(self, last)"},
+    ("binomialsum", "BinomialSum"): {
+        "__init__": "(self, weight, base, *, choose, rise, central)", "__eq__": "(self, other)",
+        "summand": "(self, n, k)", "value": "(self, n)", "factors": property},
 }
 STATIC = {("poly", "Poly", "constant"): "(x)", ("poly", "Poly", "line"): "(slope, offset)",
           ("poly2", "Poly2", "in_n"): "(p)", ("poly2", "Poly2", "in_k"): "(p)",
@@ -54,7 +76,7 @@ class InterfaceTest(unittest.TestCase):
         for (file, name), members in CLASSES.items():
             kind = vars(importlib.import_module(f"certsums.{file}"))[name]
             self.assertEqual(kind.__module__, f"certsums.{file}")
-            for member, form in {**RING, **members}.items():
+            for member, form in members.items():
                 found = vars(kind)[member]
                 if isinstance(form, str):
                     self.assertEqual(str(inspect.signature(found)), form, member)

@@ -1,13 +1,16 @@
 """Whole numbers, and polynomials as lists of whole coefficients, the power 0 first."""
 
 from itertools import zip_longest
-from math import gcd, isqrt
+from math import gcd, isqrt, lcm
 
 # Below this length, the plain product is faster than packing.
 SHORT = 8
 
 # So many bits of quotients are found at once in a search for a denominator.
 CHUNK = 500
+
+# Python itself refuses to write or to read numbers that have many more digits than these.
+DIGITS = 1000
 
 
 def power_of(base, exponent):
@@ -20,6 +23,26 @@ def power_of(base, exponent):
         if exponent > 0:
             base = base * base
     return found
+
+
+def decimal(number):
+    """The digits of a whole number, with a sign before them if it is negative."""
+    if number < 0:
+        return "-" + decimal(-number)
+    # Less than 10 / 3 bits make a digit, so fewer bits make no more digits than the limit.
+    if number.bit_length() <= 3 * DIGITS:
+        return str(number)
+    count = number.bit_length() * 3 // 20
+    high, low = divmod(number, power_of(10, count))
+    return decimal(high) + decimal(low).zfill(count)
+
+
+def from_digits(digits):
+    """The number with these digits, of which there is at least one."""
+    if len(digits) <= DIGITS:
+        return int(digits)
+    count = len(digits) // 2
+    return from_digits(digits[:-count]) * power_of(10, count) + from_digits(digits[-count:])
 
 
 def total_of(parts, zero):
@@ -134,6 +157,20 @@ def _first_steps(high, low, bound):
     if first[1] == 0:
         return (0, 1), (1, high // low)
     return first, second
+
+
+def common_den(parts):
+    """The least common denominator of a list of values that have one, 1 for an empty list."""
+    found = 1
+    for part in parts:
+        found = lcm(found, part.den)
+    return found
+
+
+def whole_coefs(polys):
+    """The coefficients of polynomials times one number, a list of whole numbers for each of them."""
+    den = common_den(polys)
+    return [[c * (den // p.den) for c in p.coefs] for p in polys]
 
 
 def common_factor(numbers):

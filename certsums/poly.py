@@ -4,7 +4,8 @@ from math import lcm
 
 from certsums.errors import DivisionByZero
 from certsums.fraction import Fraction
-from certsums.intlists import added, common_factor, evaluated, multiplied, power_of, powered, shifted_coefs, trimmed
+from certsums.intlists import added, common_den, common_factor, evaluated, multiplied, power_of, powered
+from certsums.intlists import shifted_coefs, trimmed
 
 
 class Poly:
@@ -101,7 +102,5 @@ def _coefs_over(p, den):
 
 def from_fractions(fractions):
     """The polynomial with these coefficients, the power 0 first."""
-    den = 1
-    for fraction in fractions:
-        den = lcm(den, fraction.den)
+    den = common_den(fractions)
     return Poly([fraction.num * (den // fraction.den) for fraction in fractions], den)

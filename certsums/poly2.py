@@ -1,10 +1,8 @@
 """Polynomials in the two variables n and k with rational coefficients."""
 
-from math import lcm
-
 from certsums.counting import binomial
 from certsums.fraction import Fraction
-from certsums.intlists import multiplied, power_of, powered, shifted_coefs, total_of, trimmed
+from certsums.intlists import common_den, multiplied, power_of, powered, shifted_coefs, total_of, trimmed
 from certsums.poly import Poly, from_fractions
 
 # If rows grow by more bits over one denominator, a product is faster row by row.
@@ -31,8 +29,8 @@ class Poly2:
         return self + -other
 
     def __mul__(self, other):
-        first_den = _common_den(self.rows)
-        second_den = _common_den(other.rows)
+        first_den = common_den(self.rows)
+        second_den = common_den(other.rows)
         if max(_growth(self.rows, first_den), _growth(other.rows, second_den)) > MUCH:
             return Poly2(_product_by_rows(self.rows, other.rows))
         width = max(0, self.degree_n) + max(0, other.degree_n) + 1
@@ -81,14 +79,14 @@ class Poly2:
     def moved(self, by_n, by_k):
         """The polynomial with n + by_n in place of n and k + by_k in place of k."""
         width = self.degree_n + 1
-        den = _common_den(self.rows)
+        den = common_den(self.rows)
         table = [shifted_coefs(_padded(row, den, width), by_n) for row in self.rows]
         columns = [shifted_coefs([entries[j] for entries in table], by_k) for j in range(width)]
         return Poly2([Poly([column[i] for column in columns], den) for i in range(len(table))])
 
     def power(self, exponent):
         """This polynomial to a power, 1 for the exponent 0."""
-        den = _common_den(self.rows)
+        den = common_den(self.rows)
         if _growth(self.rows, den) > MUCH:
             return product_of2([self] * exponent)
         width = max(0, self.degree_n) * exponent + 1
@@ -114,13 +112,6 @@ class Poly2:
         """The polynomial p(n + k)."""
         size = len(p.coefs)
         return Poly2([Poly([binomial(j, i) * p.coefs[j] for j in range(i, size)], p.den) for i in range(size)])
-
-
-def _common_den(rows):
-    den = 1
-    for row in rows:
-        den = lcm(den, row.den)
-    return den
 
 
 def _growth(rows, den):

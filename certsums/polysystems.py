@@ -1,15 +1,15 @@
 """Linear systems of polynomials: a kernel vector of coprime polynomials, or a number with an inverse.
 
-A kernel vector is found as a power series around a number, modulo a power of a prime number, from which its polynomials
-are read off. It is checked; if it is wrong, the next prime number and a higher power of it are taken.
+A kernel vector of few columns consists of determinants. One of many columns is found as a power series around a number,
+modulo a power of a prime number, from which its polynomials are read off. Each one is checked; if it is wrong, the next
+prime number and a higher power of it are taken.
 """
 
 from itertools import zip_longest
-from math import lcm
 
 from certsums.division import common_divisor_of, exact
 from certsums.intlists import added, inner, multiplied, next_prime, power_of, primitive, shifted_coefs
-from certsums.intlists import common_fractions, inverse_of_unit, remainders, value_modulo
+from certsums.intlists import common_fractions, inverse_of_unit, remainders, value_modulo, whole_coefs
 from certsums.poly import Poly
 from certsums.systems import PRIME, first_gap, inverse_matrix, kernel, pivots_modulo
 
@@ -19,10 +19,13 @@ PROBE = 1618033988
 # A recurrence is taken for the right one if it holds for so many terms more than it needs.
 SPARE = 8
 
+# Up to so many independent columns, determinants are found faster than a power series.
+FEW = 7
+
 
 def poly_kernel(rows, width):
     """("vector", v) with rows times v equal to 0, or ("point", n, inverse) with an inverse of the rows at n."""
-    matrix = [_whole_row(row) for row in rows]
+    matrix = [whole_coefs(row) for row in rows]
     prime = PRIME
     probe = PROBE
     count = 2
@@ -33,19 +36,11 @@ def poly_kernel(rows, width):
             _, inverse = kernel([[p.at(n) for p in row] for row in rows], width)
             return "point", n, inverse
         vector = _kernel_vector(matrix, first_gap(columns), prime, power_of(prime, count))
-        if vector is not None:
+        if vector is not None and _is_in_kernel(matrix, vector):
             return "vector", _coprime(vector, width)
         prime = next_prime(prime)
         probe = probe + 1
         count = 2 * count
-
-
-def _whole_row(row):
-    """The whole coefficients of a row of polynomials times one number."""
-    den = 1
-    for p in row:
-        den = lcm(den, p.den)
-    return [[c * (den // p.den) for c in p.coefs] for p in row]
 
 
 def _matrix_at(matrix, n, prime):
@@ -72,16 +67,43 @@ def _coprime(vector, width):
 def _kernel_vector(matrix, count, prime, modulus):
     """The whole coefficients of a vector in which the column count, the first dependent one, comes last, or None."""
     start, indexes = _regular_number(matrix, count, prime)
+    if count <= FEW:
+        return _determinants([matrix[i][:count + 1] for i in indexes])
+    return _vector_by_series(matrix, count, start, indexes, prime, modulus)
+
+
+def _determinants(rows):
+    """The determinants without one of the columns, of which there is one more than rows, with alternating signs."""
+    # The bits of a key tell the columns of a determinant of the first rows.
+    known = {0: [1]}
+    for row in rows:
+        known = _with_one_row_more(known, row)
+    width = len(rows) + 1
+    found = [known[(1 << width) - 1 - (1 << j)] for j in range(width)]
+    return [coefs if j % 2 == 0 else [-c for c in coefs] for j, coefs in enumerate(found)]
+
+
+def _with_one_row_more(known, row):
+    found = {}
+    for key in known:
+        for j, coefs in enumerate(row):
+            if (key >> j) & 1 == 0:
+                behind = len([i for i in range(j + 1, len(row)) if (key >> i) & 1 == 1])
+                signed = coefs if behind % 2 == 0 else [-c for c in coefs]
+                total = found.get(key + (1 << j), [])
+                found[key + (1 << j)] = added(total, multiplied(known[key], signed))
+    return found
+
+
+def _vector_by_series(matrix, count, start, indexes, prime, modulus):
+    """The same vector, read off a power series, or None."""
     local = [[shifted_coefs(matrix[i][j], start) for j in range(count + 1)] for i in indexes]
     terms, shortest = _series(local, count, prime, modulus)
     divisor = remainders(shortest.coefs, modulus)
     if divisor[-1] % prime == 0:
         return None
     polys = [_times_series(divisor, [term[j] for term in terms[:shortest.size]], modulus) for j in range(count)]
-    vector = _rational(polys + [divisor], start, prime, modulus)
-    if vector is None or not _is_in_kernel(matrix, vector):
-        return None
-    return vector
+    return _rational(polys + [divisor], start, prime, modulus)
 
 
 def _series(local, count, prime, modulus):

@@ -4,10 +4,8 @@ Remainders modulo a prime number tell which rows and columns count, and a soluti
 Each answer is checked; if it is wrong, the prime number was a bad one, and the next one is taken.
 """
 
-from math import lcm
-
 from certsums.fraction import Fraction
-from certsums.intlists import common_fractions, height, inner, inverse_of_unit, next_prime, power_of
+from certsums.intlists import common_den, common_fractions, height, inner, inverse_of_unit, next_prime, power_of
 
 # A prime number. It decides how fast an answer is found, and which one of several.
 PRIME = 2147483647
@@ -30,15 +28,8 @@ def solve(rows, right, width):
 
 def _whole_rows(rows):
     """The pair (scales, matrix): each row times the least number that makes its entries whole."""
-    scales = [_common_den(row) for row in rows]
+    scales = [common_den(row) for row in rows]
     return scales, [[x.num * (scale // x.den) for x in row] for scale, row in zip(scales, rows)]
-
-
-def _common_den(row):
-    den = 1
-    for x in row:
-        den = lcm(den, x.den)
-    return den
 
 
 def _solution_or_refutation(matrix, width, prime):

@@ -26,6 +26,18 @@ FUNCTIONS = {
     "telescoping": {"column": "(binomial_sum, order, j)", "forward": "(binomial_sum, order)",
                     "backward": "(binomial_sum)", "certificate_degree": "(binomial_sum, order)",
                     "equations": "(binomial_sum, order)"},
+    "definite": {"recurrence": "(binomial_sum, *, order)", "least_recurrence": "(binomial_sum)"},
+    "row": {"needed": "(operator)"},
+    "rowbuild": {"row_of_sum": "(binomial_sum)", "row_of_term": "(term)", "add_rows": "(first, second)",
+                 "multiply_rows": "(first, second)", "scale_row": "(row, factor)", "partial_sums": "(row)",
+                 "move_row": "(row)"},
+    "compare": {"common_multiple": "(first, second)", "compare_rows": "(first, second)",
+                "compare_sums": "(first, second)"},
+    "checker": {"accepts_running": "(ratio, certificate)", "accepts_recurrence": "(binomial_sum, certificate)",
+                "accepts_rows": "(first, second, certificate)"},
+    "writing": {"write_certificate": "(certificate)", "write_thing": "(thing)"},
+    "reading": {"read_certificate": "(text)", "read_thing": "(text)"},
+    "ledger": {"write_book": "(book)", "read_book": "(text)"},
 }
 RING = {"__add__": "(self, other)", "__sub__": "(self, other)", "__mul__": "(self, other)", "__neg__": "(self)",
         "__eq__": "(self, other)"}
@@ -56,11 +68,23 @@ CLASSES = {
     ("binomialsum", "BinomialSum"): {
         "__init__": "(self, weight, base, *, choose, rise, central)", "__eq__": "(self, other)",
         "summand": "(self, n, k)", "value": "(self, n)", "factors": property},
+    ("operator", "Operator"): {
+        **RING,
+        "__init__": "(self, coefs)", "apply_at": "(self, values, n)", "order": property, "is_zero": property,
+        "lead": property, "shift": staticmethod},
+    ("row", "Row"): {
+        "__init__": "(self, operator, initial)", "__eq__": "(self, other)", "value": "(self, n)",
+        "prefix": "(self, count)", "since": property},
+    ("book", "Book"): {
+        "__init__": "(self)", "add": "(self, name, thing)", "names": "(self)", "thing": "(self, name)",
+        "offer_running": "(self, name, certificate)", "offer_recurrence": "(self, name, certificate)",
+        "offer_same": "(self, first, second, certificate)", "claims": "(self)", "closed": "(self, name)",
+        "same": "(self, first, second)", "value": "(self, name, index)", "audit": "(self)"},
 }
 STATIC = {("poly", "Poly", "constant"): "(x)", ("poly", "Poly", "line"): "(slope, offset)",
           ("poly2", "Poly2", "in_n"): "(p)", ("poly2", "Poly2", "in_k"): "(p)",
           ("poly2", "Poly2", "line"): "(n_factor, k_factor, offset)", ("poly2", "Poly2", "of_sum"): "(p)",
-          ("quotient", "Quotient", "whole"): "(p)"}
+          ("quotient", "Quotient", "whole"): "(p)", ("operator", "Operator", "shift"): "(steps)"}
 
 
 class InterfaceTest(unittest.TestCase):

@@ -3,7 +3,9 @@
 import itertools
 import random
 import unittest
+from unittest import mock
 
+from certsums import polysystems
 from certsums.division import common_divisor_of
 from certsums.fraction import Fraction
 from certsums.matrix import identity, multiply
@@ -162,6 +164,27 @@ class PolyKernelTest(unittest.TestCase):
                 first[1][0] = Poly([99])
             first[-1].pop()
             self.assertEqual(poly_kernel(rows, 2), second)
+
+    def test_both_ways(self):
+        # Determinants and power series find the same vectors up to a factor.
+        source = random.Random(4)
+        for size in range(1, 10):
+            rows = full_matrix(source, size, size + 1, 2, 9)
+            found = [self.check(rows, size + 1)[1]]
+            for few in [-1, 9]:
+                with mock.patch.object(polysystems, "FEW", few):
+                    found.append(self.check(rows, size + 1)[1])
+            for v in found[1:]:
+                self.assertTrue(all(v[i] * found[0][-1] == found[0][i] * v[-1] for i in range(size)))
+
+
+class SeriesTest(PolyKernelTest):
+    """The same tests, but without determinants."""
+
+    def setUp(self):
+        patch = mock.patch.object(polysystems, "FEW", -1)
+        patch.start()
+        self.addCleanup(patch.stop)
 
 
 if __name__ == "__main__":
